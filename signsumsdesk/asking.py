@@ -1,7 +1,7 @@
 """The calls that ask and change nothing: each gives back the list of numbers that it answers."""
 
-from signsumsdesk.refusals import CANNOT_BE, NO_SUCH, NOT_RIGHT
-from signsumsdesk.rows import signs_at
+from signsumsdesk.refusals import CANNOT_BE, NO_SUCH, NOT_RIGHT, THERE_IS_NONE
+from signsumsdesk.rows import equations_against, row_fits, signs_at, unknowns_against
 from signsumsdesk.signsets import ALL_THREE, SET_OF_SIGN, product_of_sets, sum_of_sets
 
 
@@ -50,3 +50,49 @@ def nth(desk, k):
     if k >= len(rows):
         return [CANNOT_BE]
     return [len(rows[k])] + rows[k]
+
+
+def fits(desk, numbers):
+    """1 if the row of signs fits, else 0."""
+    if not desk.is_row(numbers):
+        return [NOT_RIGHT]
+    return [1 if row_fits(desk.allowed, desk.equations, numbers) else 0]
+
+
+def why(desk, numbers):
+    """What stands against the row of signs: 0 and the first such unknown, or else 1 and the first such equation."""
+    if not desk.is_row(numbers):
+        return [NOT_RIGHT]
+    unknowns = unknowns_against(desk.allowed, numbers)
+    if len(unknowns) > 0:
+        return [0, unknowns[0]]
+    equations = equations_against(desk.equations, numbers)
+    if len(equations) > 0:
+        return [1, equations[0]]
+    return [THERE_IS_NONE]
+
+
+def spare(desk, e):
+    """1 if without equation e just the same rows fit, else 0."""
+    if not desk.has_equation(e):
+        return [NO_SUCH]
+    return [1 if desk.rows_without(e) == desk.rows_that_fit() else 0]
+
+
+def spares(desk):
+    """How many equations are spare, each by itself, then these."""
+    rows = desk.rows_that_fit()
+    found = [e for e in range(len(desk.equations)) if desk.rows_without(e) == rows]
+    return [len(found)] + found
+
+
+def look(desk, e):
+    """How many signs equation e has, then these: the right side's is the last."""
+    if not desk.has_equation(e):
+        return [NO_SUCH]
+    return [len(desk.equations[e])] + desk.equations[e]
+
+
+def state(desk):
+    """How many unknowns there are, how many equations, then which signs each unknown may have."""
+    return [len(desk.allowed), len(desk.equations)] + desk.allowed

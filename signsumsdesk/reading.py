@@ -12,6 +12,17 @@ MAY = 8
 ALL = 9
 WAYS = 10
 NTH = 11
+FITS = 12
+WHY = 13
+SPARE = 14
+SPARES = 15
+DET = 16
+TERM = 17
+MINOR = 18
+SOLVED = 19
+SOLUTION = 20
+LOOK = 21
+STATE = 22
 
 # By a call's number, how many whole numbers it has; the calls in LISTED have one list in their place.
 HOW_MANY = (1, 0, 1, 3, 2, 1, 2, 2, 1, 0, 0, 1, 0, 0, 1, 0, 0, 0, 2, 1, 0, 1, 0)

@@ -29,29 +29,24 @@ def holds(equation, row):
     return (BELOW in found) == (ABOVE in found)
 
 
-def holds_in_all(equations, row):
-    """Whether the row holds in each of the equations."""
-    for equation in equations:
-        if not holds(equation, row):
-            return False
-    return True
+def unknowns_against(allowed, row):
+    """The unknowns that may not have their sign in the row, rising."""
+    return [j for j, sign in enumerate(row) if not has_sign(allowed[j], sign)]
 
 
-def is_allowed(allowed, row):
-    """Whether each unknown may have its sign in the row."""
-    for signs, sign in zip(allowed, row):
-        if not has_sign(signs, sign):
-            return False
-    return True
+def equations_against(equations, row):
+    """The equations in which the row does not hold, by their numbers, rising."""
+    return [e for e, equation in enumerate(equations) if not holds(equation, row)]
+
+
+def row_fits(allowed, equations, row):
+    """Whether each unknown may have its sign in the row, and the row holds in all equations."""
+    return len(unknowns_against(allowed, row)) == 0 and len(equations_against(equations, row)) == 0
 
 
 def fitting_rows(allowed, equations):
     """The rows that fit, in order."""
-    found = []
-    for row in rows_in_order(len(allowed)):
-        if is_allowed(allowed, row) and holds_in_all(equations, row):
-            found.append(row)
-    return found
+    return [row for row in rows_in_order(len(allowed)) if row_fits(allowed, equations, row)]
 
 
 def signs_at(rows, j):

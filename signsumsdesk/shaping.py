@@ -1,7 +1,7 @@
 """The calls that shape the object: each gives back the list of numbers that it answers."""
 
 from signsumsdesk.refusals import NO_SUCH, NOT_RIGHT, TOO_MANY
-from signsumsdesk.signsets import ABOVE, ALL_THREE, NONE, turned_set, turned_sign
+from signsumsdesk.signsets import ABOVE, ALL_THREE, NONE, are_signs, turned_set, turned_sign
 
 MOST_UNKNOWNS = 5
 MOST_EQUATIONS = 5
@@ -14,14 +14,6 @@ def begin(desk, n):
     desk.allowed = [ALL_THREE for j in range(n)]
     desk.equations = []
     return [0]
-
-
-def are_signs(numbers):
-    """Whether each of the numbers is a sign."""
-    for number in numbers:
-        if number > ABOVE:
-            return False
-    return True
 
 
 def eq(desk, numbers):

@@ -1,15 +1,13 @@
 """The calls on one object, handed in as one list of whole numbers, and what they answer, as another."""
 
-from signsumsdesk.asking import may, may_all, nth, product_set, sum_set, ways
+from signsumsdesk.asking import fits, look, may, may_all, nth, product_set, spare, spares, state, sum_set, ways, why
 from signsumsdesk.desk import Desk
-from signsumsdesk.reading import ALL, ALLOW, BEGIN, CHANGE, DROP, EQ, MAY, NTH, PRODUCT, SUM, TURN, WAYS
+from signsumsdesk.reading import ALL, ALLOW, BEGIN, CHANGE, DET, DROP, EQ, FITS, LOOK, MAY, MINOR, NTH, PRODUCT
+from signsumsdesk.reading import SOLUTION, SOLVED, SPARE, SPARES, SUM, TERM, TURN, WAYS, WHY
 from signsumsdesk.reading import Reader, take_given
 from signsumsdesk.refusals import BEFORE_BEGIN
 from signsumsdesk.shaping import allow, begin, change, drop, eq, turn
-
-
-class NotBuilt(Exception):
-    """A call that the document names and that this program does not answer yet."""
+from signsumsdesk.squares import det, minor, solution, solved, term
 
 
 def shape(desk, call, given):
@@ -26,7 +24,7 @@ def shape(desk, call, given):
 
 
 def ask(desk, call, given):
-    """What a call answers that asks an object that has begun."""
+    """What a call answers that asks which signs there may be, all equations together."""
     if call == SUM:
         return sum_set(given[0], given[1])
     if call == PRODUCT:
@@ -39,7 +37,33 @@ def ask(desk, call, given):
         return ways(desk)
     if call == NTH:
         return nth(desk, given[0])
-    raise NotBuilt(f"call {call}")
+    if call == FITS:
+        return fits(desk, given)
+    if call == WHY:
+        return why(desk, given)
+    if call == SPARE:
+        return spare(desk, given[0])
+    return spares(desk)
+
+
+def ask_square(desk, call, given):
+    """What a call answers that asks a square table."""
+    if call == DET:
+        return det(desk)
+    if call == TERM:
+        return term(desk)
+    if call == MINOR:
+        return minor(desk, given[0], given[1])
+    if call == SOLVED:
+        return solved(desk, given[0])
+    return solution(desk)
+
+
+def show(desk, call, given):
+    """What a call answers that shows what the object has."""
+    if call == LOOK:
+        return look(desk, given[0])
+    return state(desk)
 
 
 def answer(desk, call, given):
@@ -50,7 +74,11 @@ def answer(desk, call, given):
         return [BEFORE_BEGIN]
     if call <= TURN:
         return shape(desk, call, given)
-    return ask(desk, call, given)
+    if call <= SPARES:
+        return ask(desk, call, given)
+    if call <= SOLUTION:
+        return ask_square(desk, call, given)
+    return show(desk, call, given)
 
 
 def answers(calls):

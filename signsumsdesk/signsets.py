@@ -19,6 +19,14 @@ def product_sign(one, other):
     return (one - NONE) * (other - NONE) + NONE
 
 
+def are_signs(numbers):
+    """Whether each of the numbers is a sign."""
+    for number in numbers:
+        if number > ABOVE:
+            return False
+    return True
+
+
 def has_sign(signs, sign):
     """Whether this sign is in the set."""
     return (signs & SET_OF_SIGN[sign]) != 0

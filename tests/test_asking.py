@@ -1,4 +1,4 @@
-"""Point 2: sum, product, may, all, ways, nth."""
+"""Point 2: sum, product, may, all, ways, nth, fits, why, spare, spares."""
 
 import unittest
 
@@ -89,6 +89,125 @@ class Asked(unittest.TestCase):
     def test_places_of_five_unknowns(self):
         self.assertEqual(answered(("begin", 5), ("nth", 0), ("nth", 1), ("nth", 81), ("nth", 242), ("nth", 243))[1:],
                          [[5, 0, 0, 0, 0, 0], [5, 0, 0, 0, 0, 1], [5, 1, 0, 0, 0, 0], [5, 2, 2, 2, 2, 2], [-33]])
+
+
+class FitsAndWhy(unittest.TestCase):
+    """x - y comes to something above, x + z to none, and y isn't below."""
+
+    CALLS = (("begin", 3), ("eq", [2, 0, 1, 2]), ("eq", [2, 1, 2, 1]), ("allow", 1, 6))
+
+    def test_it_fits(self):
+        for row in ([2, 1, 0], [2, 2, 0]):
+            self.assertEqual(answered(*self.CALLS, ("fits", row), ("why", row))[4:], [[1], [-6]])
+
+    def test_an_unknown_may_not_have_its_sign(self):
+        for row in ([2, 0, 0], [1, 0, 1], [0, 0, 0]):
+            self.assertEqual(answered(*self.CALLS, ("fits", row), ("why", row))[4:], [[0], [0, 1]])
+
+    def test_it_does_not_hold_in_an_equation(self):
+        for row, e in (([0, 1, 2], 0), ([1, 1, 1], 0), ([0, 1, 0], 0), ([2, 1, 1], 1), ([2, 2, 2], 1)):
+            self.assertEqual(answered(*self.CALLS, ("fits", row), ("why", row))[4:], [[0], [1, e]])
+
+    def test_the_first_unknown(self):
+        calls = (("begin", 5), ("allow", 1, 5), ("allow", 3, 4), ("allow", 4, 1))
+        self.assertEqual(answered(*calls, ("why", [1, 1, 1, 1, 1]), ("why", [1, 0, 1, 1, 1]), ("why", [1, 2, 1, 2, 1]),
+                                  ("why", [1, 2, 1, 2, 0]))[4:], [[0, 1], [0, 3], [0, 4], [-6]])
+
+    def test_the_first_equation(self):
+        calls = (("begin", 1), ("eq", [1, 1]), ("eq", [2, 2]), ("eq", [1, 1]), ("eq", [1, 0]), ("eq", [2, 2]))
+        self.assertEqual(answered(*calls, ("why", [0]), ("why", [1]), ("why", [2]), ("drop", 3), ("why", [2]))[6:],
+                         [[1, 1], [1, 1], [1, 3], [4], [-6]])
+
+    def test_an_unknown_comes_ahead_of_an_equation(self):
+        calls = (("begin", 2), ("eq", [1, 1, 2]), ("allow", 1, 3))
+        self.assertEqual(answered(*calls, ("why", [2, 2]), ("why", [2, 1]))[3:], [[0, 1], [1, 0]])
+
+    def test_a_list_of_another_length(self):
+        for n in range(1, 6):
+            for length in range(256):
+                told = answered(("begin", n), ("fits", [1] * length), ("why", [2] * length), ("ways",))[1:]
+                self.assertEqual(told, [[1], [-6], [3 ** n]] if length == n else [[-22], [-22], [3 ** n]])
+
+    def test_what_is_no_sign(self):
+        for j in range(3):
+            for number in (3, 4, 7, 255, 256, MOST):
+                row = [2, 0, 2]
+                row[j] = number
+                self.assertEqual(answered(*self.CALLS, ("fits", row), ("why", row))[4:], [[-22], [-22]])
+
+    def test_as_many_signs_as_an_equation_has(self):
+        self.assertEqual(answered(("begin", 1), ("eq", [2, 2]), ("fits", [2, 2]), ("why", [2, 2]))[2:], [[-22], [-22]])
+
+    def test_five_unknowns_and_five_equations(self):
+        equations = [[2 if i == j else 1 for i in range(5)] + [2 * (j % 2)] for j in range(5)]
+        calls = (("begin", 5), *[("eq", equation) for equation in equations])
+        self.assertEqual(answered(*calls, ("fits", [0, 2, 0, 2, 0]), ("why", [0, 2, 0, 2, 0]), ("why", [0, 2, 0, 2, 1]),
+                                  ("fits", [0, 2, 0, 2, 1]), ("why", [0, 2, 1, 0, 1]))[6:],
+                         [[1], [-6], [1, 4], [0], [1, 2]])
+
+    def test_one_unknown(self):
+        for before, right, rows in ((2, 2, [2]), (2, 1, [1]), (2, 0, [0]), (1, 2, []), (1, 1, [0, 1, 2]), (0, 2, [0])):
+            for sign in range(3):
+                told = answered(("begin", 1), ("eq", [before, right]), ("fits", [sign]), ("why", [sign]))[2:]
+                self.assertEqual(told, [[1], [-6]] if sign in rows else [[0], [1, 0]])
+
+
+class Spare(unittest.TestCase):
+    def test_two_equations_alike_are_each_spare(self):
+        calls = (("begin", 2), ("eq", [2, 0, 2]), ("eq", [2, 0, 2]))
+        self.assertEqual(answered(*calls, ("spare", 0), ("spare", 1), ("spares",))[3:], [[1], [1], [2, 0, 1]])
+        self.assertEqual(answered(*calls, ("drop", 0), ("spare", 0), ("spares",))[4:], [[0], [0]])
+
+    def test_an_equation_without_any_part_is_spare(self):
+        for n in range(1, 6):
+            self.assertEqual(answered(("begin", n), ("eq", [1] * (n + 1)), ("spare", 0), ("spares",))[2:], [[1], [1, 0]])
+
+    def test_a_right_side_alone_is_not(self):
+        calls = (("begin", 2), ("eq", [1, 1, 2]))
+        self.assertEqual(answered(*calls, ("spare", 0), ("spares",))[2:], [[0], [0]])
+        self.assertEqual(answered(*calls, ("eq", [1, 1, 0]), ("spare", 0), ("spare", 1), ("spares",))[3:],
+                         [[1], [1], [2, 0, 1]])
+
+    def test_all_others_are_spare_beside_what_nothing_fits(self):
+        calls = (("begin", 1), ("eq", [2, 2]), ("eq", [1, 0]), ("eq", [0, 1]))
+        self.assertEqual(answered(*calls, ("spare", 0), ("spare", 1), ("spare", 2), ("spares",))[4:],
+                         [[1], [1], [1], [3, 0, 1, 2]])
+        self.assertEqual(answered(*calls, ("drop", 2), ("spare", 0), ("spare", 1), ("spares",))[5:], [[1], [0], [1, 0]])
+
+    def test_what_unknowns_may_have_is_looked_at(self):
+        calls = (("begin", 2), ("eq", [2, 2, 2]))
+        self.assertEqual(last(*calls, ("spare", 0)), [0])
+        self.assertEqual(last(*calls, ("allow", 0, 4), ("allow", 1, 6), ("spare", 0)), [1])
+        self.assertEqual(last(*calls, ("allow", 0, 4), ("allow", 1, 7), ("spare", 0)), [1])
+        self.assertEqual(last(*calls, ("allow", 0, 6), ("allow", 1, 6), ("spare", 0)), [0])
+
+    def test_an_unknown_that_may_have_none_alone(self):
+        self.assertEqual(answered(("begin", 1), ("allow", 0, 2), ("eq", [2, 1]), ("spare", 0), ("spares",))[3:],
+                         [[1], [1, 0]])
+        self.assertEqual(answered(("begin", 1), ("allow", 0, 2), ("eq", [2, 2]), ("spare", 0), ("spares",))[3:],
+                         [[0], [0]])
+
+    def test_rows_as_many_are_not_the_same_rows(self):
+        # With the other equation left out as many rows fit as without this one, but they are others.
+        calls = (("begin", 1), ("eq", [2, 2]), ("eq", [2, 0]))
+        self.assertEqual(answered(*calls, ("spares",), ("spare", 0), ("spare", 1))[3:], [[0], [0], [0]])
+
+    def test_those_that_are_spare_rise(self):
+        calls = (("begin", 2), ("eq", [1, 1, 1]), ("eq", [2, 0, 1]), ("eq", [1, 1, 1]), ("eq", [2, 1, 2]), ("eq", [1, 1, 1]))
+        self.assertEqual(last(*calls, ("spares",)), [3, 0, 2, 4])
+        self.assertEqual(answered(*calls, *[("spare", e) for e in range(6)])[6:], [[1], [0], [1], [0], [1], [-2]])
+
+    def test_no_equations(self):
+        self.assertEqual(answered(("begin", 3), ("spares",), ("spare", 0)), [[0], [0], [-2]])
+
+    def test_no_such_equation(self):
+        for e in (2, 3, 5, MOST):
+            self.assertEqual(last(("begin", 5), *[("eq", [1] * 6)] * 2, ("spare", e)), [-2])
+
+    def test_five_unknowns_and_five_equations(self):
+        diagonal = [("eq", [2 if i == j else 1 for i in range(5)] + [2]) for j in range(5)]
+        self.assertEqual(answered(("begin", 5), *diagonal, ("spares",), ("change", 4, 4, 1), ("change", 4, 5, 1),
+                                  ("spares",))[6:], [[0], [2], [2], [1, 4]])
 
 
 class Corners(unittest.TestCase):

@@ -2,8 +2,8 @@
 
 import unittest
 
-from signsumsdesk.signs import NotBuilt, answers
-from wording import BUILT, MOST, NAMES, answered, last, listed, shown
+from signsumsdesk.signs import answers
+from wording import MOST, NAMES, answered, last, listed, shown
 
 GIVEN = {"begin": (1,), "eq": ([0, 1],), "drop": (0,), "change": (0, 0, 0), "allow": (0, 1), "turn": (0,),
          "sum": (1, 1), "product": (1, 1), "may": (0,), "all": (), "ways": (), "nth": (0,), "fits": ([0],),
@@ -78,14 +78,39 @@ class Form(unittest.TestCase):
         self.assertEqual(answers([0, 3]), [1, 0])
         self.assertEqual(answers([10]), [1, -11])
 
-    def test_calls_that_are_not_built_answer_nothing(self):
-        for name in NAMES[len(BUILT):]:
-            with self.subTest(name), self.assertRaises(NotBuilt):
-                answered(("begin", 1), (name, *GIVEN[name]))
+    def test_numbers_of_the_later_calls_as_they_stand(self):
+        calls = [0, 2, 1, 3, 2, 2, 2, 1, 3, 0, 2, 1, 12, 2, 2, 2, 12, 0, 13, 2, 0, 0, 13, 2, 2, 2, 13, 1, 1,
+                 14, 0, 14, 9, 15, 16, 17, 18, 1, 0, 18, 0, 2, 19, 0, 20, 21, 1, 21, 2, 22]
+        self.assertEqual(answers(calls), [
+            1, 0, 1, 0, 1, 1, 1, 1, 1, -22, 2, 1, 0, 1, -6, 1, -22, 1, 0, 1, -2, 1, 0, 3, 4, 2, 0, 3, 2, 0, 1, 1, 4, 1, -2,
+            1, 4, 3, 2, 4, 4, 4, 3, 0, 2, 1, 1, -2, 4, 2, 2, 7, 7])
+
+    def test_each_call_behind_a_begin(self):
+        expected = {"fits": [1], "why": [-6], "spare": [-2], "spares": [0], "det": [-16], "term": [-16], "minor": [-2],
+                    "solved": [-16], "solution": [-16], "look": [-2], "state": [1, 0, 7]}
+        for name, numbers in expected.items():
+            with self.subTest(name):
+                self.assertEqual(answered(("begin", 1), (name, *GIVEN[name])), [[0], numbers])
+
+    def test_all_kinds_in_any_order(self):
+        calls = [(name, *GIVEN[name]) for name in NAMES]
+        told = answered(*calls)
+        self.assertEqual([len(numbers) for numbers in told][:12], [1, 1, 1, 1, 1, 1, 1, 1, 1, 2, 1, 2])
+        self.assertEqual(told[12:], [[0], [0, 0], [-2], [0], [-16], [-16], [-2], [-16], [-16], [-2], [1, 0, 4]])
+        told = answered(("begin", 1), *reversed(calls))
+        self.assertEqual(told[:12], [[0], [1, 0, 7], [-2], [-16], [-16], [-2], [-16], [-16], [0], [-2], [-6], [1]])
+
+    def test_sixty_calls_of_the_widest_table(self):
+        calls = (("begin", 5), *[("eq", [2, 0, 2, 2, 0, 1])] * 5)
+        for name, expected in (("spares", [5, 0, 1, 2, 3, 4]), ("det", [7, 60, 60]), ("solution", [-33]),
+                               ("state", [5, 5, 7, 7, 7, 7, 7])):
+            self.assertEqual(answered(*calls, *[(name,)] * 54)[6:], [expected] * 54)
 
     def test_whole_numbers_alone(self):
-        handed = listed(("begin", 2), *[(name, *GIVEN[name]) for name in BUILT], ("eq", [2, 2, 0]), ("drop", 0),
-                        ("all",), ("nth", 0), ("turn", 0), ("nth", MOST))
+        handed = listed(("begin", 2), *[(name, *GIVEN[name]) for name in NAMES], ("begin", 2), ("eq", [2, 2, 0]),
+                        ("drop", 0), ("all",), ("nth", 0), ("turn", 0), ("nth", MOST), ("eq", [2, 1, 0]), ("eq", [0, 0, 1]),
+                        ("fits", [0, 2]), ("fits", [2, 2]), ("why", [2, 2]), ("why", [0, 2]), ("spare", 0), ("spares",),
+                        ("det",), ("term",), ("minor", 0, 0), ("solved", 0), ("solution",), ("look", 0), ("state",))
         told = answers(handed)
         self.assertIs(type(told), list)
         self.assertEqual({type(number) for number in told}, {int})
@@ -93,7 +118,9 @@ class Form(unittest.TestCase):
 
 class HandedIn(unittest.TestCase):
     CALLS = (("begin", 2), ("eq", [2, 0, 1]), ("eq", [2, 2, 2]), ("eq", [3, 3, 3]), ("change", 1, 2, 0), ("turn", 0),
-             ("allow", 1, 3), ("all",), ("nth", 0), ("drop", 0), ("begin", 9), ("begin", 1), ("ways",))
+             ("allow", 1, 3), ("all",), ("nth", 0), ("fits", [1, 1]), ("why", [2, 0]), ("fits", []), ("why", [3, 3]),
+             ("spare", 0), ("spares",), ("det",), ("term",), ("minor", 0, 1), ("solved", 1), ("solution",), ("look", 1),
+             ("state",), ("turn", 1), ("look", 1), ("drop", 0), ("begin", 9), ("begin", 1), ("ways",))
 
     def test_it_is_not_changed(self):
         handed = listed(*self.CALLS)
@@ -129,7 +156,12 @@ class Refused(unittest.TestCase):
                 (("change", 3, 0, 0), -2), (("change", 0, 3, 0), -2), (("change", 0, 0, 3), -22), (("change", 3, 3, 3), -2),
                 (("allow", 2, 1), -2), (("allow", 0, 0), -22), (("allow", 1, 8), -22), (("allow", 2, 0), -2),
                 (("turn", 2), -2), (("turn", MOST), -2), (("sum", 8, 0), -22), (("product", 0, 8), -22),
-                (("may", 2), -2), (("may", 0), -33), (("all",), -33), (("nth", 0), -33))
+                (("may", 2), -2), (("may", 0), -33), (("all",), -33), (("nth", 0), -33), (("fits", []), -22),
+                (("fits", [1]), -22), (("fits", [1, 3]), -22), (("fits", [1, 1, 1]), -22), (("fits", [1] * 255), -22),
+                (("why", []), -22), (("why", [MOST, 0]), -22), (("why", [0, 0, 0]), -22), (("spare", 3), -2),
+                (("spare", MOST), -2), (("det",), -16), (("term",), -16), (("minor", 0, 0), -16), (("minor", 3, 0), -2),
+                (("minor", 0, 2), -2), (("solved", 0), -16), (("solved", 2), -2), (("solution",), -16), (("look", 3), -2),
+                (("look", MOST), -2))
 
     def test_the_object_as_it_is(self):
         self.assertEqual(shown(2, 3, *self.FOUNDATION), self.BEHIND)
@@ -142,6 +174,17 @@ class Refused(unittest.TestCase):
                 self.assertEqual(shown(2, 3, *self.FOUNDATION, call), self.BEHIND)
                 self.assertEqual(last(*self.FOUNDATION, call, ("drop", 0)), [2])
 
+    def test_refusals_of_a_square_table(self):
+        calls = (("begin", 2), ("eq", [2, 2, 0]), ("eq", [2, 2, 0]), ("allow", 0, 6))
+        for call, number in ((("solved", 0), -33), (("solved", 2), -2), (("solution",), -33), (("minor", 2, 0), -2),
+                             (("minor", 0, 2), -2), (("why", [1, 0]), -6)):
+            self.assertEqual(last(*calls, call), [number])
+            self.assertEqual(shown(2, 2, *calls, call), ([[2, 2, 0], [2, 2, 0]], [6, 7]))
+        calls = (("begin", 1), ("eq", [1, 2]))
+        for call, number in ((("term",), -6), (("minor", 0, 0), -22), (("solved", 0), -33), (("solution",), -33)):
+            self.assertEqual(last(*calls, call), [number])
+            self.assertEqual(shown(1, 1, *calls, call), ([[1, 2]], [7]))
+
     def test_one_equation_too_many(self):
         calls = (("begin", 1), *[("eq", [2, 0])] * 5)
         self.assertEqual(last(*calls, ("eq", [0, 1])), [-28])
@@ -149,10 +192,15 @@ class Refused(unittest.TestCase):
         self.assertEqual(last(*calls, ("eq", [0, 1]), ("change", 5, 0, 0)), [-2])
 
     def test_asking_changes_nothing(self):
-        asked = (("sum", 1, 4), ("product", 7, 7), ("may", 0), ("all",), ("ways",), ("nth", 0), ("nth", 1))
+        asked = (("sum", 1, 4), ("product", 7, 7), ("may", 0), ("all",), ("ways",), ("nth", 0), ("nth", 1),
+                 ("fits", [2, 2]), ("why", [2, 2]), ("why", [1, 2]), ("spare", 0), ("spares",), ("det",), ("term",),
+                 ("minor", 0, 0), ("minor", 1, 1), ("solved", 0), ("solved", 1), ("solution",), ("look", 0), ("state",))
         self.assertEqual(shown(2, 3, *self.FOUNDATION, *asked), self.BEHIND)
         calls = (("begin", 2), ("eq", [2, 0, 1]), ("allow", 1, 6))
         self.assertEqual(shown(2, 1, *calls, *asked), ([[2, 0, 1]], [7, 6]))
+        calls = (("begin", 2), ("eq", [2, 0, 1]), ("eq", [2, 2, 0]), ("allow", 0, 3))
+        self.assertEqual(shown(2, 2, *calls, *asked), ([[2, 0, 1], [2, 2, 0]], [3, 7]))
+        self.assertEqual(answered(*calls, *asked)[4:], answered(*calls, *asked, *asked)[4 + len(asked):])
 
 
 if __name__ == "__main__":
